@@ -16,15 +16,35 @@ GIVEN = {
     8: ("state", "value"),
     9: ("state",),
     10: ("state", "row"),
+    11: ("labels",),
+    12: ("labels",),
+    13: ("state", "longest"),
+    14: ("state", "row"),
+    15: ("state", "row"),
+    16: ("hole count", "value count"),
+    17: (),
+    18: ("value",),
+    19: ("hole",),
+    20: (),
+    21: ("state",),
 }
 
 # The kinds that have before them how many numbers they are.
-LISTS = ("text", "codes", "row")
+LISTS = ("text", "codes", "row", "labels")
+
+# The least and the greatest number of the kinds that hang on no field.
+RANGES = {
+    "longest": (1, 3),
+    "hole count": (1, 3),
+    "value count": (2, 8),
+}
 
 GREATEST_STATE = 63
 GREATEST_VALUE = 7
+GREATEST_HOLE = 5
 GREATEST_BYTE = 255
 LONGEST_ROW = 60
+GREATEST_LABEL = 1000
 
 
 def parted(calls):
@@ -47,11 +67,16 @@ def parted(calls):
     return parts
 
 
+def checked_range(number, least, greatest):
+    """The number, if it is in that range."""
+    if number < least or number > greatest:
+        raise OutOfRange()
+    return number
+
+
 def checked_number(number, greatest, count):
     """The number, if it is in the range from 0 to greatest and one of so many that there are."""
-    if number < 0 or number > greatest:
-        raise OutOfRange()
-    if number >= count:
+    if checked_range(number, 0, greatest) >= count:
         raise NotThere()
     return number
 
@@ -74,13 +99,29 @@ def checked_row(row, count):
     return row
 
 
+def checked_labels(labels, count):
+    """The labels, if they are in their range and as many as there are states."""
+    if len(labels) != count:
+        raise BadList()
+    for label in labels:
+        if label < -GREATEST_LABEL or label > GREATEST_LABEL:
+            raise BadList()
+    return labels
+
+
 def checked(field, kind, thing):
     """What the call works with: the thing as it was given, but of a text the field that it tells."""
+    if kind in RANGES:
+        return checked_range(thing, RANGES[kind][0], RANGES[kind][1])
     if kind == "state":
         return checked_number(thing, GREATEST_STATE, field.state_count())
     if kind == "value":
         return checked_number(thing, GREATEST_VALUE, len(field.names))
+    if kind == "hole":
+        return checked_number(thing, GREATEST_HOLE, field.holes)
     if kind == "row":
         return checked_row(thing, len(field.names))
+    if kind == "labels":
+        return checked_labels(thing, field.state_count())
     codes = checked_bytes(thing)
     return read_field(codes) if kind == "text" else codes

@@ -36,6 +36,34 @@ class NotThere(Refusal):
         Refusal.__init__(self, -5)
 
 
+class NotAsked(Refusal):
+    """The value may not be asked in the card's state."""
+
+    def __init__(self):
+        Refusal.__init__(self, -6)
+
+
+class HoleNotched(Refusal):
+    """The card's hole is notched already."""
+
+    def __init__(self):
+        Refusal.__init__(self, -6)
+
+
+class WithoutWay(Refusal):
+    """There's no way from the card's state to the value."""
+
+    def __init__(self):
+        Refusal.__init__(self, -7)
+
+
+class TooManyTables(Refusal):
+    """There are more tables than are gone through."""
+
+    def __init__(self):
+        Refusal.__init__(self, -9)
+
+
 class Fault(Refusal):
     """A text has a word that can't stand where it stands, or words are missing at its end."""
 

@@ -8,19 +8,24 @@ NO_END = 1000
 
 
 class Field:
-    """A field that isn't changed any more once it is made."""
+    """A field with its table, and for each state its rank and its best ways."""
 
     def __init__(self, holes, names, lets, table):
         self.holes = holes
         self.names = list(names)
         self.lets = list(lets)
         self.table = list(table)
+        self.above = [more_notched(state, len(table)) for state in range(len(table))]
         self.ranks = [NO_END] * len(table)
         self.best = [[] for value in table]
         # A way's number is always greater, so its rank is there before it is needed.
         for state in range(len(table) - 1, -1, -1):
-            self.best[state] = self.best_ways(state)
-            self.ranks[state] = self.least_left(state)
+            self.settle(state)
+
+    def settle(self, state):
+        """Find the state's best ways and its rank; those of its ways are to be found already."""
+        self.best[state] = self.best_ways(state)
+        self.ranks[state] = self.least_left(state)
 
     def state_count(self):
         """How many states there are."""
@@ -32,23 +37,30 @@ class Field:
 
     def asked(self, state):
         """The values that may be asked in the state, rising."""
-        own = self.table[state]
+        return self.asked_from(self.table[state])
+
+    def asked_from(self, own):
+        """The values that may be asked where that value stands, or NO_VALUE, rising."""
         if own == NO_VALUE or len(self.lets) == 0:
             return [value for value in range(len(self.names)) if value != own]
         return [value for value in range(len(self.names)) if (own, value) in self.lets]
 
-    def more_notched(self, state):
-        """The other states that have all of the state's notches, rising."""
-        return [other for other in range(state + 1, len(self.table)) if (other & state) == state]
-
     def ways(self, state, value):
         """The ways from the state to the value, rising."""
-        return [other for other in self.more_notched(state) if self.table[other] == value]
+        return [other for other in self.above[state] if self.table[other] == value]
+
+    def before(self, state):
+        """The states from which the best way to the state's value goes to it, rising."""
+        own = self.table[state]
+        if own == NO_VALUE:
+            return []
+        # A way has more notches, so its number is greater.
+        return [other for other in range(state) if self.best[other][own] == state]
 
     def best_ways(self, state):
         """For each value the best way to it from the state, or NO_WAY."""
         best = [NO_WAY] * len(self.names)
-        for other in self.more_notched(state):
+        for other in self.above[state]:
             value = self.table[other]
             if value == NO_VALUE:
                 continue
@@ -114,6 +126,11 @@ class Field:
 def first_field():
     """The field of a line's beginning."""
     return Field(1, [], [], [NO_VALUE, NO_VALUE])
+
+
+def more_notched(state, count):
+    """Of so many states the other ones that have all of the state's notches, rising."""
+    return [other for other in range(state + 1, count) if (other & state) == state]
 
 
 def notch_count(state):

@@ -14,7 +14,14 @@ NAMES = ["a", "b", "c", "d", "e", "f", "g", "h"]
 CLEVER = ("holes 3\nvalues north east south west\nat 0 is north\nat 1 is east\nat 2 is south\n"
           "at 0 1 is west\nat 0 2 is east\nat 1 2 is north\nat 0 1 2 is south")
 
-CLEAR, TEXT, TOLD, RANKS = [0], [3], [4], [7]
+# What many examples are worked out of by hand: two holes, three values.
+PLAIN = "holes 2\nvalues a b c\nat is a\nat 0 is b\nat 1 is c\nat 0 1 is a"
+LET = "holes 2\nvalues a b c\nlet a b\nlet b c\nat is a\nat 0 is b\nat 1 is c\nat 0 1 is a"
+
+# The holes and values of which best tells a table.
+NOT_REFUSED = [(holes, count) for holes in (1, 2) for count in range(2, 9)] + [(3, 2), (3, 3)]
+
+CLEAR, TEXT, TOLD, RANKS, NEW, CARD = [0], [3], [4], [7], [17], [20]
 
 
 def codes(text):
@@ -51,6 +58,42 @@ def worst(state):
 
 def carry(state, row):
     return [10, state] + listed(row)
+
+
+def lower(labels):
+    return [11] + listed(labels)
+
+
+def upper(labels):
+    return [12] + listed(labels)
+
+
+def known(state, longest):
+    return [13, state, longest]
+
+
+def far(state, row):
+    return [14, state] + listed(row)
+
+
+def may(state, row):
+    return [15, state] + listed(row)
+
+
+def best(holes, count):
+    return [16, holes, count]
+
+
+def change(asked):
+    return [18, asked]
+
+
+def notch(hole):
+    return [19, hole]
+
+
+def before(state):
+    return [21, state]
 
 
 def run(*calls):
@@ -94,7 +137,7 @@ class Model:
     def __init__(self, holes, count, table, lets=()):
         self.holes, self.count, self.table, self.lets = holes, count, list(table), list(lets)
         self.sets = [frozenset(h for h in range(holes) if s >> h & 1) for s in range(2 ** holes)]
-        self.rank_known = {}
+        self.rank_known, self.ways_known = {}, {}
 
     def text(self):
         return text_of(self.holes, NAMES[:self.count], self.table, self.lets)
@@ -110,7 +153,10 @@ class Model:
         return others
 
     def ways(self, state, w):
-        return [t for t in self.states() if self.table[t] == w and self.sets[state] < self.sets[t]]
+        if (state, w) not in self.ways_known:
+            self.ways_known[state, w] = [
+                t for t in self.states() if self.table[t] == w and self.sets[state] < self.sets[t]]
+        return self.ways_known[state, w]
 
     def left(self, state, w):
         return max([1 + self.rank(t) for t in self.ways(state, w)], default=0)
@@ -141,6 +187,46 @@ class Model:
             states.append(state)
         return [1, len(states)] + states
 
+    def asked_behind(self, w):
+        """What may be asked where the value w stands; it may stand in no state."""
+        if self.lets:
+            return [second for first, second in self.lets if first == w]
+        return [other for other in range(self.count) if other != w]
+
+    def may(self, state, row):
+        states = {state}
+        for w in row:
+            itself = {s for s in states if self.table[s] == w}
+            states = itself.union(*[self.ways(s, w) for s in states if w in self.asked(s)])
+        return sorted(states)
+
+    def far(self, state, row):
+        return max(many for many in range(len(row) + 1) if self.may(state, row[:many]))
+
+    def known(self, state, longest):
+        """Every row, the lesser ones first, until one is lost by its last change."""
+        rows = [row for many in range(1, longest + 1) for row in itertools.product(range(self.count), repeat=many)]
+        for row in sorted(rows):
+            may_be_asked = row[0] in self.asked(state) and all(
+                second in self.asked_behind(first) for first, second in zip(row, row[1:]))
+            if may_be_asked and self.may(state, row[:-1]) and not self.may(state, row):
+                return [0, len(row), *row]
+        return [1]
+
+    def lower(self, labels):
+        wrong = [s for s in self.states() if labels[s] > 0 and any(
+            max([labels[way] for way in self.ways(s, w)], default=-9999) < labels[s] - 1 for w in self.asked(s))]
+        return [0, wrong[0]] if wrong else [1, labels[0]]
+
+    def upper(self, labels):
+        wrong = [s for s in self.states() if labels[s] >= 0 and not any(
+            all(labels[way] in range(labels[s]) for way in self.ways(s, w)) for w in self.asked(s))]
+        return [0, wrong[0]] if wrong else [1, labels[0]]
+
+    def before(self, state):
+        own = self.table[state]
+        return [] if own is None else [s for s in self.states() if self.best(s, own) == state]
+
 
 def shown(rank):
     return -1 if rank == float("inf") else rank
@@ -154,6 +240,30 @@ def small_models():
             for told in range(len(changes) + 1):
                 for lets in itertools.combinations(changes, told):
                     yield Model(holes, count, table, lets)
+
+
+def first_tables(holes, count):
+    """All tables without a value in state 0, the least sum first: the last state's value weighs the most."""
+    for told in itertools.product([None, *range(count)], repeat=2 ** holes - 1):
+        yield [None, *reversed(told)]
+
+
+def bears(table, count, state, changes):
+    """Whether the state bears so many changes, whatever is asked; all changes are let, None is no value."""
+    if changes == 0:
+        return True
+    ways = [other for other in range(state + 1, len(table)) if other & state == state]
+    return all(any(table[way] == w and bears(table, count, way, changes - 1) for way in ways)
+               for w in range(count) if w != table[state])
+
+
+def best_table(holes, count):
+    """What best answers: the greatest rank, and state by state the value's number plus 1, or 0, of the first table."""
+    rank, first = 0, [None] * 2 ** holes
+    for table in first_tables(holes, count):
+        while bears(table, count, 0, rank + 1):
+            rank, first = rank + 1, table
+    return [rank] + [0 if own is None else own + 1 for own in first]
 
 
 def mixed_models(many, seed):

@@ -2,12 +2,9 @@
 
 import unittest
 
-from tests.helper import RANKS, Model, after, carry, go, mixed_models, one, ranks_of, run, shown, small_models, \
-    value, ways, worst
-
-# What the examples below are worked out of by hand: two holes, three values.
-PLAIN = "holes 2\nvalues a b c\nat is a\nat 0 is b\nat 1 is c\nat 0 1 is a"
-LET = "holes 2\nvalues a b c\nlet a b\nlet b c\nat is a\nat 0 is b\nat 1 is c\nat 0 1 is a"
+from tests.helper import (
+    LET, PLAIN, RANKS, Model, after, carry, go, mixed_models, one, ranks_of, run, shown, small_models, value, ways,
+    worst)
 
 # Four values, changed twice, by three holes.
 TWICE = ("holes 3\nvalues a b c d\nat is a\nat 0 is b\nat 1 is c\nat 0 1 is d\n"

@@ -152,9 +152,25 @@ class Language(unittest.TestCase):
                 if isinstance(node, ast.FunctionDef):
                     self.assertLessEqual(node.end_lineno - node.lineno + 1, 40, node.name)
 
+    def test_l15_what_a_files_top_holds_within(self):
+        for path, text, tree in self.each_file():
+            for node in tree.body:
+                if isinstance(node, ast.Assign) and isinstance(node.value, (ast.List, ast.Dict, ast.Tuple)):
+                    within = [part for part in ast.walk(node.value) if isinstance(part, (ast.List, ast.Dict))]
+                    self.assertIn(within, ([], [node.value]), f"{path.name}:{node.lineno}")
+
     def test_l17_words_that_stand_nowhere(self):
         for path, text, tree in self.each_file():
             self.assertIsNone(re.search(rf"\b({NEVER})\b|dataclass|overload|contextmanager", text), path.name)
+
+    def test_l19_errors(self):
+        own = tops(ast.parse((PACKAGE / "refusals.py").read_text()))
+        for where, node in self.nodes(ast.ExceptHandler):
+            self.assertIsInstance(node.type, ast.Name, where)
+            self.assertIn(node.type.id, [*own, "KeyError", "ZeroDivisionError", "StopIteration"], where)
+        for where, node in self.nodes(ast.Raise):
+            self.assertIsInstance(node.exc, ast.Call, where)
+            self.assertIn(node.exc.func.id, own, where)
 
     def test_l20_is(self):
         for where, node in self.nodes(ast.Compare):
@@ -167,6 +183,15 @@ class Language(unittest.TestCase):
             self.assertIsNone(node.returns, where)
             self.assertTrue(all(part.annotation is None for part in node.args.args), where)
 
+    def test_l22_keywords(self):
+        allowed = {"sorted": {"key", "reverse"}, "min": {"key", "default"}, "max": {"key", "default"},
+                   "sum": {"start"}, "enumerate": {"start"}, "zip": {"strict"}}
+        for where, node in self.nodes(ast.Call):
+            if isinstance(node.func, ast.Name):
+                self.assertLessEqual({word.arg for word in node.keywords}, allowed.get(node.func.id, set()), where)
+            else:
+                self.assertEqual(node.keywords, [], where)
+
     def test_l23_walked_at_once(self):
         walked = {"zip", "enumerate", "reversed", "range"}
         allowed = {"list", "tuple", "dict", "sorted", "sum", "any", "all", "enumerate", "zip", "min", "max"}
@@ -177,6 +202,20 @@ class Language(unittest.TestCase):
         for where, node in self.nodes(ast.Call):
             if isinstance(node.func, ast.Name) and node.func.id in walked:
                 self.assertIn((node.lineno, node.col_offset, ast.dump(node)), places, where)
+
+    def test_l24_sets(self):
+        at_once = [node.args[0] for where, node in self.nodes(ast.Call)
+                   if isinstance(node.func, ast.Name) and node.func.id in ("sorted", "len") and not node.keywords]
+        places = {(node.lineno, node.col_offset, ast.dump(node)) for node in at_once}
+        for where, node in self.nodes(ast.Call):
+            if isinstance(node.func, ast.Name) and node.func.id in ("set", "frozenset"):
+                self.assertIn((node.lineno, node.col_offset, ast.dump(node)), places, where)
+
+    def test_l28_methods_with_two_underscores(self):
+        for where, node in self.nodes(ast.FunctionDef):
+            if node.name.startswith("__"):
+                self.assertEqual(node.name, "__init__", where)
+                self.assertFalse([part for part in ast.walk(node) if isinstance(part, ast.Return)], where)
 
     def test_l25_and_l26_methods(self):
         own = {node.name for where, node in self.nodes(ast.FunctionDef)}
